@@ -1,0 +1,1 @@
+"""Light and events: who can have heard of whom, on a line."""
