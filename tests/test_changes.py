@@ -2,15 +2,11 @@
 
 import unittest
 
-from helper import (GREATEST, LAST_NUMBER, LEAST, begin, drop, events, heard, looks, move, put, told, told_with,
-                    turn)
+from helper import (GREATEST, LAST_NUMBER, LEAST, as_told, back, begin, by, drop, events, heard, looks, move, put,
+                    reach, told, told_with, turn)
 
 TEN = [(k, -2 * k) for k in range(10)]
 OUT = (-100, 100, LEAST, GREATEST)
-
-
-def as_told(points):
-    return [len(points)] + [number for point in points for number in point]
 
 
 class Begin(unittest.TestCase):
@@ -33,7 +29,8 @@ class Begin(unittest.TestCase):
     def test_ahead_of_it_all_others_are_refused(self):
         for i in (0, 1, LAST_NUMBER):
             for t in (0, 100, LEAST, GREATEST):
-                calls = [put(t, 0), put(0, t), drop(i), move(i, t, t), turn()] + looks(i, 0) + looks(0, i)
+                calls = [put(t, 0), put(0, t), drop(i), move(i, t, t), turn(), reach(i, t, 0), reach(i, 0, t), by(i, t),
+                         back()] + looks(i, 0) + looks(0, i)
                 for call in calls:
                     with self.subTest(call=call):
                         self.assertEqual(told(call, begin(), events()), [[-11], [0], [0]])

@@ -26,6 +26,13 @@ WORDS_OUT = """type typing typing_extensions enum Enum IntEnum StrEnum Flag IntF
     namedtuple NamedTuple TypedDict TYPE_CHECKING abstractmethod""".split()
 TWO_UNDERSCORES = ("__init__", "__eq__", "__repr__", "__str__", "__len__", "__all__", "__version__")
 PARTS_OUT = ("dataclass", "overload", "contextmanager")
+KEYWORDS = {"sorted": ("key", "reverse"), "min": ("key", "default"), "max": ("key", "default"), "sum": ("start",),
+            "enumerate": ("start",), "zip": ("strict",)}
+# What is walked on the spot, and the names within whose call it may stand as the first thing.
+WALKED = ("zip", "enumerate", "reversed", "range", "items", "keys", "values")
+WALKS = ("list", "tuple", "dict", "sorted", "sum", "any", "all", "enumerate", "zip", "min", "max")
+# Names that Python's own values have: no method and no value of an object is called like these.
+OF_OWN_VALUES = {name for value in ("", 0, [], {}, set(), b"") for name in dir(value)}
 
 
 def nodes(*kinds):
@@ -42,6 +49,18 @@ def bound_names(tree):
         elif isinstance(node, ast.Name) and isinstance(node.ctx, ast.Store):
             names.add(node.id)
     return names
+
+
+def called(node):
+    return node.func.id if isinstance(node.func, ast.Name) else getattr(node.func, "attr", None)
+
+
+def names_given(node):
+    if isinstance(node, ast.Assign):
+        return [target.id for target in node.targets]
+    if isinstance(node, ast.ImportFrom):
+        return [alias.name for alias in node.names]
+    return [node.name] if isinstance(node, (ast.FunctionDef, ast.ClassDef)) else []
 
 
 def methods_of_the_package():
@@ -99,6 +118,63 @@ class Language(unittest.TestCase):
             for node in ast.walk(tree):
                 if isinstance(node, ast.Name) and node.id not in bound:
                     self.assertIn(node.id, OWN_OF_PYTHON, node.lineno)
+
+    def test_parameters(self):
+        for node in nodes(ast.FunctionDef, ast.Lambda):
+            given = node.args
+            self.assertEqual((given.vararg, given.kwarg, given.kwonlyargs, given.posonlyargs), (None, None, [], []))
+
+    def test_comprehensions(self):
+        for node in nodes(ast.ListComp):
+            self.assertEqual(len(node.generators), 1, node.lineno)
+            self.assertLessEqual(len(node.generators[0].ifs), 1, node.lineno)
+
+    def test_is_beside_none_true_and_false_alone(self):
+        for node in nodes(ast.Compare):
+            for sign, right in zip(node.ops, node.comparators):
+                if isinstance(sign, (ast.Is, ast.IsNot)):
+                    self.assertIn(getattr(right, "value", "no plain value"), (None, True, False), node.lineno)
+
+    def test_keywords(self):
+        for node in nodes(ast.Call):
+            used = [keyword.arg for keyword in node.keywords]
+            allowed = KEYWORDS.get(getattr(node.func, "id", None), ())
+            self.assertEqual([word for word in used if word not in allowed], [], node.lineno)
+
+    def test_walked_on_the_spot(self):
+        on_the_spot = [node.iter for node in nodes(ast.For, ast.comprehension)]
+        for node in nodes(ast.Call):
+            if called(node) in WALKS:
+                on_the_spot += node.args[:1]
+        for node in nodes(ast.Call):
+            if called(node) in WALKED:
+                self.assertIn(node, on_the_spot, node.lineno)
+
+    def test_the_top_of_a_file(self):
+        for tree in TREES:
+            names = [name for node in tree.body for name in names_given(node)]
+            self.assertEqual(len(names), len(set(names)))
+            for node in tree.body:
+                self.assertIsInstance(node, (ast.FunctionDef, ast.ClassDef, ast.ImportFrom, ast.Assign, ast.Expr))
+                if isinstance(node, ast.Expr):
+                    self.assertIs(node, tree.body[0])
+                if isinstance(node, ast.Assign):
+                    ast.literal_eval(node.value)
+
+    def test_no_two_files_draw_from_one_another(self):
+        drawn = {}
+        for path, tree in zip(FILES, TREES):
+            drawn["lightevents." + path.stem] = [node.module for node in tree.body if isinstance(node, ast.ImportFrom)]
+        left = dict(drawn)
+        while left:
+            free = [name for name in left if not [other for other in left[name] if other in left]]
+            self.assertNotEqual(free, [], left)
+            left = {name: left[name] for name in left if name not in free}
+
+    def test_own_methods_and_values_are_called_otherwise_than_pythons(self):
+        stored = {node.attr for node in nodes(ast.Attribute) if isinstance(node.ctx, ast.Store)}
+        own = methods_of_the_package() - {"__init__"}
+        self.assertEqual(sorted((stored | own) & OF_OWN_VALUES), [])
 
     def test_methods_and_values(self):
         own = methods_of_the_package()

@@ -1,8 +1,8 @@
-"""heard, kind, square, past, future, between."""
+"""heard, kind, square, past, future, between, aside."""
 
 import unittest
 
-from helper import LAST_NUMBER, between, drop, future, heard, kind, move, past, square, told_with
+from helper import LAST_NUMBER, aside, between, drop, future, heard, kind, many_lists, move, past, square, told_with
 
 # Ten events, each just by light or slower from the one ahead of it.
 ROW = [(0, 0), (1, 1), (2, 1), (3, 0), (3, 0), (4, -1), (6, 1), (7, 1), (9, -1), (99, 89)]
@@ -23,7 +23,7 @@ class NoSuchEvent(unittest.TestCase):
                         self.assertEqual(told_with(points, call(i, 0), call(0, i), call(i, i)), [[-2]] * 3)
 
     def test_of_one(self):
-        for call in (past, future):
+        for call in (past, future, aside):
             for points in ([], [(1, 2)], ROW):
                 for i in (len(points), len(points) + 1, LAST_NUMBER):
                     with self.subTest(call=call.__name__, points=points, i=i):
@@ -186,6 +186,43 @@ class Between(unittest.TestCase):
     def test_ten_in_one_row(self):
         self.assertEqual(told_with(ROW, between(0, 9), between(9, 0), between(2, 6)),
                          [[8, 1, 2, 3, 4, 5, 6, 7, 8], [0], [3, 3, 4, 5]])
+
+
+class Aside(unittest.TestCase):
+    def test_one_event(self):
+        self.assertEqual(told_with([(3, 3)], aside(0)), [[0]])
+
+    def test_none_of_others(self):
+        self.assertEqual(told_with([(0, 0), (4, 1), (-4, -3)], aside(0)), [[0]])
+
+    def test_some_told_out_of_order(self):
+        points = [(1, 9), (0, 0), (-3, 4), (2, 2), (0, -5), (3, -4), (7, 0)]
+        self.assertEqual(told_with(points, aside(1), aside(6), aside(0)),
+                         [[4, 0, 2, 4, 5], [1, 0], [6, 1, 2, 3, 4, 5, 6]])
+
+    def test_not_itself_and_not_one_at_the_same_time_and_place(self):
+        self.assertEqual(told_with([(1, 1), (1, 1), (1, 7), (1, 1)], aside(0), aside(1), aside(2)),
+                         [[1, 2], [1, 2], [3, 0, 1, 3]])
+
+    def test_not_what_light_alone_joins(self):
+        for t in (-2, 2):
+            self.assertEqual(told_with([(0, 0), (t, 2), (t, -2), (t, 3), (t, -3)], aside(0)), [[2, 3, 4]])
+
+    def test_one_place_off_at_one_time(self):
+        self.assertEqual(told_with([(4, 0), (4, 1), (4, -1)], aside(0), aside(1)), [[2, 1, 2], [2, 0, 2]])
+
+    def test_ten_apart_and_ten_in_one_row(self):
+        apart = [(0, 7 * k) for k in range(10)]
+        self.assertEqual(told_with(apart, aside(3)), [[9, 0, 1, 2, 4, 5, 6, 7, 8, 9]])
+        self.assertEqual(told_with(ROW, *[aside(k) for k in range(10)]), [[0]] * 10)
+
+    def test_those_of_kind_3(self):
+        for points in many_lists():
+            pairs = [(i, j) for i in range(len(points)) for j in range(len(points))]
+            kinds = dict(zip(pairs, told_with(points, *[kind(i, j) for i, j in pairs])))
+            for i, answer in enumerate(told_with(points, *[aside(i) for i in range(len(points))])):
+                expected = [j for j in range(len(points)) if kinds[(i, j)] == [3]]
+                self.assertEqual(answer, [len(expected)] + expected, (points, i))
 
 
 if __name__ == "__main__":
